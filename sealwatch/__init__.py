@@ -1,0 +1,1 @@
+"""Sealwatch: boxes under seals, and what can have been done with them."""

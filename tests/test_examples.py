@@ -1,0 +1,139 @@
+"""The examples of the interface, as they stand in the document."""
+
+import unittest
+
+EXAMPLES = '''
+>>> from sealwatch.houses import House
+>>> house = House(2, (("hand", 0), ("box", 0)), (("box", 1),), (("box", 0),))
+>>> [house.state[2], house.all_items, ("thing", 0) in house, ("box", 2) in house]
+[(('box', 0),), [('box', 0), ('box', 1), ('seal', 0), ('thing', 0)], True, False]
+
+>>> from sealwatch.houses import House
+>>> House(1, (("hand", 0), ("box", 1)), (), ())
+raises InvalidHouse(part='boxes', index=1)
+
+>>> from sealwatch.houses import House
+>>> House(1, (("hand", 0),), (), (("box", 0), ("box", 0)))
+raises InvalidHouse(part='seals', index=1)
+
+>>> from sealwatch.houses import House
+>>> from sealwatch.worlds import World
+>>> house = House(2, (("hand", 0), ("box", 0)), (("box", 1),), (("box", 0),))
+>>> world = World(house)(("break", 0, 0))(("take", 0, ("box", 1), 0))
+>>> [world.where(("seal", 0)), world.held(0), world.holder(("thing", 0)), world.inside(1), world.seal(0)]
+[('gone', 0), [('box', 0), ('box', 1)], 0, [('thing', 0)], None]
+
+>>> from sealwatch.houses import House
+>>> from sealwatch.worlds import World
+>>> world = World(House(2, (("hand", 0),), (("box", 0),), (("hand", 1),)))
+>>> [world.is_so(("in", 0, (("thing", 0),))), world.is_so(("not", ("bare", 0))), world.is_so(("at", ("seal", 0), ("hand", 1)))]
+[True, False, True]
+
+>>> from sealwatch.houses import House
+>>> from sealwatch.worlds import World
+>>> world = World(House(2, (("hand", 0),), (("box", 0),), (("box", 0),)))
+>>> world(("take", 0, ("thing", 0), 0))
+raises IsSealed()
+
+>>> from sealwatch.houses import House
+>>> from sealwatch.worlds import World
+>>> world = World(House(2, (("hand", 0),), (("hand", 1),), ()))
+>>> world(("put", 0, ("thing", 0), 0))
+raises NotHeld()
+
+>>> from sealwatch.houses import House
+>>> from sealwatch.logs import Log, final_states, impossible_row
+>>> house = House(2, (("hand", 0),), (("hand", 1),), ())
+>>> log = Log(house, [("gap", (0,)), ("at", ("thing", 0), ("box", 0))])
+>>> more = Log(house, [("gap", (0, 1)), ("in", 0, (("thing", 0),))])
+>>> [impossible_row(log), impossible_row(more), final_states(more)]
+[1, None, [((('hand', 0),), (('box', 0),), ()), ((('hand', 1),), (('box', 0),), ())]]
+
+>>> from sealwatch.houses import House
+>>> from sealwatch.logs import Log
+>>> log = Log(House(3, (("hand", 0),), (), ()), [("gap", (0, 2)), ("bare", 0), ("gap", (1,))])
+>>> [log.gaps, len(log), log[1], log.watched((1, 2)).rows, log.until(1).rows]
+[[0, 2], 3, ('bare', 0), (('gap', (2,)), ('bare', 0), ('gap', (1,))), (('gap', (0, 2)),)]
+
+>>> from sealwatch.houses import House
+>>> from sealwatch.logs import Log
+>>> Log(House(2, (("hand", 0),), (), ()), [("bare", 0), ("give", 1, ("box", 0), 1)])
+raises InvalidLog(index=1)
+
+>>> from sealwatch.houses import House
+>>> from sealwatch.logs import Log
+>>> from sealwatch.questions import answer, possible_places
+>>> house = House(2, (("hand", 0),), (("box", 0),), (("box", 0),))
+>>> log = Log(house, [("gap", (0,))])
+>>> whole = log + [("not", ("bare", 0))]
+>>> [possible_places(log, ("thing", 0)), possible_places(whole, ("thing", 0)), answer(log, ("gone", 0)), answer(whole, ("gone", 0))]
+[[('box', 0), ('hand', 0)], [('box', 0)], 'sometimes', 'never']
+
+>>> from sealwatch.houses import House
+>>> from sealwatch.logs import Log
+>>> from sealwatch.touching import touch_span, touch_words
+>>> house = House(3, (("hand", 0),), (("box", 0),), ())
+>>> log = Log(house, [("gap", (0, 1)), ("at", ("thing", 0), ("hand", 1))])
+>>> [touch_words(log, ("thing", 0)), touch_span(log, ("thing", 0), 0), touch_span(log, ("thing", 0), 1), touch_span(log, ("box", 0), 0)]
+[['perhaps', 'surely', 'never'], (1, 1), (1, 2), (0, 2)]
+
+>>> from sealwatch.houses import House
+>>> from sealwatch.logs import Log
+>>> from sealwatch.touching import touch_words
+>>> log = Log(House(2, (("hand", 0),), (("hand", 0),), ()), [("at", ("thing", 0), ("hand", 1))])
+>>> touch_words(log, ("thing", 0))
+raises NoCourse()
+
+>>> from sealwatch.courses import course_count, courses, fewest_course
+>>> from sealwatch.houses import House
+>>> from sealwatch.logs import Log
+>>> house = House(2, (("hand", 0),), (("box", 0),), ())
+>>> log = Log(house, [("gap", (0, 1)), ("at", ("thing", 0), ("hand", 1))])
+>>> [fewest_course(log), course_count(log, 2), course_count(log, 3), list(courses(log, 2))]
+[(2, [[('give', 0, ('box', 0), 1), ('take', 1, ('thing', 0), 0)]]), 2, 3, [[[('give', 0, ('box', 0), 1), ('take', 1, ('thing', 0), 0)]], [[('take', 0, ('thing', 0), 0), ('give', 0, ('thing', 0), 1)]]]]
+
+>>> from sealwatch.courses import first_fault
+>>> from sealwatch.houses import House
+>>> from sealwatch.logs import Log
+>>> house = House(2, (("hand", 0),), (("box", 0),), ())
+>>> log = Log(house, [("gap", (0,)), ("at", ("thing", 0), ("hand", 0))])
+>>> give = ("give", 0, ("thing", 0), 1)
+>>> take = ("take", 0, ("thing", 0), 0)
+>>> [first_fault(log, [[take]]), first_fault(log, [[]]), first_fault(log, [[take, give]]), first_fault(log, [[take, take]])]
+[None, (1, -1), (0, 1), (0, 1)]
+
+>>> from sealwatch.courses import first_fault
+>>> from sealwatch.houses import House
+>>> from sealwatch.logs import Log
+>>> first_fault(Log(House(1, (("hand", 0),), (), ()), [("bare", 0)]), [[]])
+raises InvalidCourse()
+'''
+
+
+def told_by(names, line):
+    """What a line of an example shows."""
+    try:
+        return repr(eval(line, names))
+    except ValueError as error:
+        told = ", ".join(f"{name}={value!r}" for name, value in vars(error).items())
+        return f"raises {type(error).__name__}({told})"
+
+
+class Examples(unittest.TestCase):
+
+    def test_all(self):
+        for example in EXAMPLES.strip().split("\n\n"):
+            with self.subTest(example=example):
+                self.run_example(example.split("\n"))
+
+    def run_example(self, lines):
+        """The last line tells what the last but one shows."""
+        names = {}
+        for line in lines[:-2]:
+            exec(line[4:], names)
+        self.assertEqual(told_by(names, lines[-2][4:]), lines[-1])
+
+
+if __name__ == "__main__":
+    unittest.main()
+

@@ -1,0 +1,95 @@
+"""Houses and logs of the greatest size, with very many states and courses."""
+
+import itertools
+import unittest
+
+from sealwatch.courses import course_count, courses, fewest_course, first_fault
+from sealwatch.errors import NoCourse
+from sealwatch.houses import House
+from sealwatch.logs import Log, final_states, impossible_row
+from sealwatch.questions import answer, possible_places
+from sealwatch.touching import touch_span, touch_words
+
+HOUSE = House(
+    4,
+    (("hand", 0), ("hand", 1), ("box", 0)),
+    (("box", 0), ("box", 1), ("hand", 2), ("box", 2)),
+    (("box", 0), ("hand", 3), ("box", 1)),
+)
+ALL = ("gap", (0, 1, 2, 3))
+GOAL = [("at", ("thing", 0), ("hand", 3)), ("at", ("thing", 1), ("box", 0)), ("at", ("thing", 2), ("box", 1)),
+        ("at", ("box", 1), ("hand", 1)), ("at", ("box", 0), ("hand", 2))]
+HANDS = [("hand", hand) for hand in range(4)]
+
+
+class Large(unittest.TestCase):
+
+    def test_all_unwatched(self):
+        log = Log(HOUSE, [ALL])
+        self.assertEqual(possible_places(log, ("thing", 3)), [("box", 0), ("box", 1), ("box", 2)] + HANDS)
+        self.assertEqual(possible_places(log, ("seal", 0)), [("box", 0), ("gone", 0)])
+        self.assertEqual(possible_places(log, ("box", 0)), [("box", 1), ("box", 2)] + HANDS)
+        self.assertEqual(answer(log, ("in", 2, (("box", 1), ("thing", 0), ("thing", 3)))), "sometimes")
+        self.assertEqual(touch_words(log, ("thing", 2)), ["perhaps", "perhaps", "surely", "perhaps"])
+        self.assertEqual(touch_words(log, ("seal", 0)), ["never"] * 4)
+
+    def test_goal(self):
+        log = Log(HOUSE, [ALL] + GOAL)
+        self.assertIsNone(impossible_row(log))
+        self.assertEqual(answer(log, ("gone", 2)), "always")
+        self.assertEqual(answer(log, ("in", 0, (("thing", 1),))), "sometimes")
+        self.assertEqual(touch_words(log, ("thing", 1)), ["perhaps"] * 4)
+        self.assertEqual(touch_words(log, ("thing", 2)), ["perhaps", "perhaps", "surely", "perhaps"])
+        self.assertEqual(touch_span(log, ("thing", 0), 3), (1, 6))
+        number, course = fewest_course(log)
+        self.assertEqual(number, 10)
+        self.assertIsNone(first_fault(log, course))
+        self.assertEqual([course_count(log, fewer) for fewer in range(10)], [0] * 10)
+        self.assertEqual(next(courses(log, 10)), course)
+
+    def test_thirty_rows(self):
+        rows = []
+        for number in range(10):
+            pair = (("gap", (0, 1)), ("gap", (1, 2)), ("gap", (2, 3)), ("gap", (0, 3)))[number % 4]
+            rows += [ALL, pair, ("not", ("in", number % 3, (("thing", number % 4),)))]
+        log = Log(HOUSE, rows)
+        self.assertEqual(len(log), 30)
+        self.assertEqual(possible_places(log, ("thing", 3)), [("box", 0), ("box", 1), ("box", 2)] + HANDS)
+        self.assertEqual(touch_span(log, ("thing", 3), 2), (1, 30))
+        number, course = fewest_course(log)
+        self.assertEqual((number, first_fault(log, course)), (2, None))
+        found = list(itertools.islice(courses(log, 20), 3))
+        self.assertEqual([sum([len(deeds) for deeds in one]) for one in found], [20, 20, 20])
+
+    def test_far_more_courses_than_can_be_made(self):
+        alike = House(1, (("hand", 0),) * 3, (("hand", 0),) * 4, (("hand", 0),) * 3)
+        count = course_count(Log(alike, [("gap", (0,))]), 20)
+        self.assertEqual(count, 1952686280547176722146)
+        counts = [course_count(Log(alike, [("gap", (0,))] + rows), 8)
+                  for rows in ([("at", ("thing", 1), ("box", 2))], [("not", ("at", ("thing", 1), ("box", 2)))], [])]
+        self.assertEqual(counts[0] + counts[1], counts[2])
+
+    def test_sums_of_counts(self):
+        """Each sight and its contrary share all courses, whatever is alike."""
+        log = Log(HOUSE, [("gap", (0, 1)), ("bare", 2), ("gap", (1, 2, 3))])
+        for sight in (("gone", 0), ("at", ("thing", 1), ("hand", 2)), ("in", 1, (("thing", 1),)), ("bare", 1)):
+            counts = [course_count(log + rows, 6) for rows in ([sight], [("not", sight)], [])]
+            self.assertEqual(counts[0] + counts[1], counts[2])
+
+    def test_few_states_of_many(self):
+        places = [("at", ("thing", number), ("hand", 3)) for number in range(4)]
+        places += [("at", ("box", number), ("hand", 3)) for number in range(3)]
+        log = Log(HOUSE, [ALL] + places + [("gone", 0), ("gone", 1), ("gone", 2)])
+        gone = ("gone", 0)
+        self.assertEqual(final_states(log), [((HANDS[3],) * 3, (HANDS[3],) * 4, (gone,) * 3)])
+
+    def test_nothing_fits(self):
+        log = Log(HOUSE, [ALL, ("at", ("thing", 3), ("hand", 3)), ("not", ("gone", 0)), ("not", ("gone", 2)), ALL])
+        self.assertEqual(impossible_row(log), 2)
+        self.assertRaises(NoCourse, fewest_course, log)
+        self.assertEqual(course_count(log, 20), 0)
+        self.assertEqual(list(courses(log, 20)), [])
+
+
+if __name__ == "__main__":
+    unittest.main()
