@@ -94,13 +94,20 @@ def classes_ahead(house, rows):
 def classes_of(word, count, told):
     classes = []
     for number in range(count):
-        for index, numbers in enumerate(classes):
-            if are_alike((word, number), (word, numbers[0]), told):
-                classes[index] = numbers + (number,)
-                break
-        else:
+        index = index_of_alike(word, number, classes, told)
+        if index is None:
             classes.append((number,))
+        else:
+            classes[index] = classes[index] + (number,)
     return tuple(classes)
+
+
+def index_of_alike(word, number, classes, told):
+    """The index of the class to which a number belongs, or None if it is alike to none before it."""
+    for index, numbers in enumerate(classes):
+        if are_alike((word, number), (word, numbers[0]), told):
+            return index
+    return None
 
 
 def are_alike(one, other, told):

@@ -15,6 +15,9 @@ METHODS = (
     " join keys ljust lower lstrip partition pop remove replace reverse rfind rjust rpartition rsplit rstrip setdefault"
     " split splitlines startswith strip update upper values zfill bit_length"
 ).split()
+MODIFYING = "append clear extend insert pop remove reverse setdefault update sort add discard".split()
+VIEWS = ("items", "keys", "values")
+AT_ONCE = ("enumerate", "zip", "reversed")
 DOUBLE = "__init__ __eq__ __len__ __call__ __iter__ __contains__ __getitem__ __add__".split()
 
 
@@ -41,6 +44,37 @@ def bound_names(tree):
             yield node.arg
         elif isinstance(node, (ast.MatchAs, ast.MatchStar)) and node.name:
             yield node.name
+
+
+def walked(node):
+    """What a loop over an expression iterates over: its names, attributes and items."""
+    if isinstance(node, (ast.Name, ast.Attribute, ast.Subscript)):
+        return [node]
+    if isinstance(node, ast.Call) and isinstance(node.func, ast.Attribute) and node.func.attr in VIEWS:
+        return walked(node.func.value)
+    if isinstance(node, ast.Call) and isinstance(node.func, ast.Name) and node.func.id in AT_ONCE:
+        return [part for argument in node.args for part in walked(argument)]
+    if isinstance(node, ast.IfExp):
+        return walked(node.body) + walked(node.orelse)
+    if isinstance(node, ast.BoolOp):
+        return [part for value in node.values for part in walked(value)]
+    return []
+
+
+def modified(nodes):
+    """All expressions whose lists or dicts some statements modify."""
+    for node in nodes:
+        for part in ast.walk(node):
+            if isinstance(part, (ast.Subscript, ast.Attribute)) and isinstance(part.ctx, (ast.Store, ast.Del)):
+                yield part.value
+            elif isinstance(part, ast.AugAssign):
+                yield part.target
+            elif isinstance(part, ast.Call) and isinstance(part.func, ast.Attribute) and part.func.attr in MODIFYING:
+                yield part.func.value
+
+
+def named(node):
+    return ast.unparse(node)
 
 
 class Rules(unittest.TestCase):
@@ -153,6 +187,16 @@ class Rules(unittest.TestCase):
             for node in ast.walk(tree):
                 if isinstance(node, ast.Call) and isinstance(node.func, ast.Name) and node.func.id in generators:
                     self.assertIn(id(node), iterated, (name, node.func.id))
+
+    def test_loops_do_not_modify_what_they_walk(self):
+        for name, tree in parsed():
+            for node in ast.walk(tree):
+                if isinstance(node, ast.For):
+                    changed = {named(part) for part in modified(node.body + node.orelse)}
+                    self.assertEqual({named(part) for part in walked(node.iter)} & changed, set(), (name, node.lineno))
+                for loop in getattr(node, "generators", []):
+                    changed = {named(part) for part in modified([node])}
+                    self.assertEqual({named(part) for part in walked(loop.iter)} & changed, set(), (name, node.lineno))
 
 
 if __name__ == "__main__":
