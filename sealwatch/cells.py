@@ -9,7 +9,7 @@ The mask of a box or a seal, which are called solid here, has hands alone, or on
 
 from sealwatch.gaps import Gap
 from sealwatch.places import CODES, state_of
-from sealwatch.plans import NOWHERE
+from sealwatch.plans import ANYWHERE, NOWHERE, Plan
 
 ALL_HANDS = 15
 
@@ -52,6 +52,8 @@ def behind_ways(cells, ways):
 
 
 def mask_behind(mask, codes):
+    if codes == ANYWHERE:
+        return mask
     changed = 0
     for code in range(CODES):
         if mask >> code & 1 and codes[code] != NOWHERE:
@@ -61,11 +63,16 @@ def mask_behind(mask, codes):
 
 def merged(plan, cells):
     """The same states in fewer cells: those that differ in one item alone become one."""
+    return merged_up(cells, plan.size, plan.solid)
+
+
+def merged_up(cells, size, solid):
+    """As merged, for a number of items, of which so many, the first ones, are solid."""
     many = len(cells) + 1
     while 1 < len(cells) < many:
         many = len(cells)
-        for index in range(plan.size):
-            cells = merged_at(cells, index, index < plan.solid)
+        for index in range(size):
+            cells = merged_at(cells, index, index < solid)
     return cells
 
 
@@ -96,6 +103,11 @@ def cells_along(plan, ban):
 def last_cells(plan, ban):
     """The cells of the states at the end of all courses that fit, and keep to a ban."""
     return cells_along(plan, ban)[-1]
+
+
+def some_course_fits(house, rows):
+    """Whether some course fits a log of such rows."""
+    return len(last_cells(Plan(house, house.state, rows), None)) > 0
 
 
 def can_end(plan, moment, cells):

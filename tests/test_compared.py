@@ -1,28 +1,17 @@
 """All that logs show, compared with a plain search through all states of small houses."""
 
-import random
 import unittest
 
-from plain import Plain, some_house, some_rows, some_sight
+from plain import some_sight
 from sealwatch.courses import course_count, courses, fewest_course, first_fault
 from sealwatch.errors import NoCourse
-from sealwatch.logs import Log, final_states, impossible_row
+from sealwatch.logs import final_states, impossible_row
 from sealwatch.questions import answer, possible_places
 from sealwatch.touching import touch_span, touch_words
+from trials import Trials
 
-SIZES = ((3, 2, 2, 2), (2, 3, 1, 2), (4, 1, 2, 1), (2, 2, 3, 1), (1, 3, 2, 2), (2, 1, 4, 3))
 
-
-class Compared(unittest.TestCase):
-
-    def each(self, seeds, most_rows, check):
-        """Check random logs, always the same ones."""
-        for seed in seeds:
-            chance = random.Random(seed)
-            plain = Plain(some_house(chance, SIZES[seed % len(SIZES)]))
-            rows = some_rows(chance, plain, chance.randint(0, most_rows))
-            with self.subTest(seed=seed):
-                check(chance, plain, rows, Log(plain.house, rows))
+class Compared(Trials):
 
     def test_states(self):
         self.each(range(200), 9, self.check_states)

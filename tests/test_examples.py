@@ -107,6 +107,42 @@ raises NoCourse()
 >>> from sealwatch.logs import Log
 >>> first_fault(Log(House(1, (("hand", 0),), (), ()), [("bare", 0)]), [[]])
 raises InvalidCourse()
+
+>>> from sealwatch.houses import House
+>>> from sealwatch.logs import Log
+>>> from sealwatch.teams import indispensable, least_teams
+>>> house = House(3, (("hand", 0),), (("hand", 1),), ())
+>>> log = Log(house, [("gap", (0, 1, 2)), ("in", 0, (("thing", 0),))])
+>>> plain = Log(house, [("gap", (0, 1, 2)), ("bare", 0)])
+>>> [least_teams(log), indispensable(log), least_teams(plain)]
+[[(0, 1)], [0, 1], [()]]
+
+>>> from sealwatch.houses import House
+>>> from sealwatch.ways import reachable, shortest_way
+>>> from sealwatch.worlds import World
+>>> house = House(2, (("hand", 0),), (("box", 0),), ())
+>>> world = World(house)
+>>> goal = ("at", ("thing", 0), ("hand", 1))
+>>> [shortest_way(world, (0, 1), goal), shortest_way(world, (0,), goal), len(reachable(house, [house.state], (0, 1)))]
+[[('give', 0, ('box', 0), 1), ('take', 1, ('thing', 0), 0)], None, 6]
+
+>>> from sealwatch.checks import fewest_checks, finding, findings, next_check, sight_of
+>>> from sealwatch.houses import House
+>>> house = House(2, (("hand", 0),), (("box", 0),), (("box", 0),))
+>>> from sealwatch.logs import Log
+>>> from sealwatch.worlds import World
+>>> log = Log(house, [("gap", (0,))])
+>>> checks = [("on", 0), ("where", ("thing", 0))]
+>>> told = [finding(World(house), ("inside", 0)), findings(log, ("on", 0)), findings(log, ("where", ("thing", 0)))]
+>>> told + [sight_of(("on", 0), None), next_check(log, checks), fewest_checks(log, checks, ("gone", 0))]
+[(('thing', 0),), [(0, 1), (None, 2)], [(('box', 0), 2), (('hand', 0), 1)], ('bare', 0), 0, 1]
+
+>>> from sealwatch.checks import next_check
+>>> from sealwatch.houses import House
+>>> house = House(2, (("hand", 0),), (("box", 0),), (("box", 0),))
+>>> from sealwatch.logs import Log
+>>> next_check(Log(house, []), [("on", 0), ("on", 1)])
+raises InvalidCheck(index=1)
 '''
 
 

@@ -3,12 +3,16 @@
 import itertools
 import unittest
 
+from sealwatch.checks import fewest_checks, findings, next_check
 from sealwatch.courses import course_count, courses, fewest_course, first_fault
 from sealwatch.errors import NoCourse
 from sealwatch.houses import House
 from sealwatch.logs import Log, final_states, impossible_row
 from sealwatch.questions import answer, possible_places
+from sealwatch.teams import least_teams
 from sealwatch.touching import touch_span, touch_words
+from sealwatch.ways import reachable, shortest_way
+from sealwatch.worlds import World
 
 HOUSE = House(
     4,
@@ -16,6 +20,7 @@ HOUSE = House(
     (("box", 0), ("box", 1), ("hand", 2), ("box", 2)),
     (("box", 0), ("hand", 3), ("box", 1)),
 )
+FREE = House(4, (("hand", 0),) * 3, (("hand", 0),) * 4, (("hand", 0),) * 3)
 ALL = ("gap", (0, 1, 2, 3))
 GOAL = [("at", ("thing", 0), ("hand", 3)), ("at", ("thing", 1), ("box", 0)), ("at", ("thing", 2), ("box", 1)),
         ("at", ("box", 1), ("hand", 1)), ("at", ("box", 0), ("hand", 2))]
@@ -89,6 +94,50 @@ class Large(unittest.TestCase):
         self.assertRaises(NoCourse, fewest_course, log)
         self.assertEqual(course_count(log, 20), 0)
         self.assertEqual(list(courses(log, 20)), [])
+
+    def test_teams(self):
+        log = Log(HOUSE, [ALL] + GOAL)
+        self.assertEqual(least_teams(log), [(0, 1, 2, 3)])
+        self.assertEqual(least_teams(Log(HOUSE, [ALL, ALL, ("gone", 0)] * 10)), [(0,)])
+        teams = least_teams(Log(HOUSE, [ALL, ("gone", 1)]))
+        self.assertEqual(teams, [(0, 3), (1, 3)])
+
+    def test_shortest_ways(self):
+        for sight in (GOAL[0], GOAL[3], ("in", 1, (("box", 0), ("thing", 2))), ("in", 2, ()), ("gone", 1), ("bare", 0)):
+            way = shortest_way(World(HOUSE), (0, 1, 2, 3), sight)
+            self.assertEqual(fewest_course(Log(HOUSE, [ALL, sight])), (len(way), [way]))
+        self.assertIsNone(shortest_way(World(HOUSE), (0, 1, 2, 3), ("at", ("seal", 0), ("hand", 0))))
+
+    def test_reachable(self):
+        for hands in ((0,), (1, 3), (2,)):
+            states = reachable(HOUSE, [HOUSE.state], hands)
+            self.assertEqual(states, final_states(Log(HOUSE, [("gap", hands)])))
+            self.assertEqual(reachable(HOUSE, states[::3] + [HOUSE.state], hands), states)
+
+    def test_counts_of_findings(self):
+        """All combinations of 196 ways to nest the boxes, 446 to place the seals, and 7 places for each thing."""
+        log = Log(FREE, [ALL])
+        many = 196 * 446 * 7 ** 4
+        where = findings(log, ("where", ("thing", 1)))
+        self.assertEqual([count for _, count in where], [many // 7] * 7)
+        counts = dict(findings(log, ("inside", 2)))
+        self.assertEqual((len(counts), sum(counts.values())), (64, many))
+        for items, count in counts.items():
+            boxes = len([item for item in items if item[0] == "box"])
+            self.assertEqual(count, (144, 24, 4)[boxes] * 446 * 6 ** (4 - len(items) + boxes))
+        counts = dict(findings(log, ("on", 1)))
+        self.assertEqual([counts[seal] * 446 for seal in range(3)], [many * (25 + 2 * 2 * 5 + 2)] * 3)
+        self.assertEqual(sum(counts.values()), many)
+
+    def test_checks(self):
+        log = Log(FREE, [ALL])
+        where = [("where", item) for item in FREE.all_items if item[0] != "seal"]
+        self.assertEqual(next_check(log, [("on", 0)] + where), 4)
+        self.assertEqual(fewest_checks(log, where + [("on", 0)], ("in", 0, (("thing", 0), ("thing", 1)))), 6)
+        self.assertEqual(fewest_checks(log, where, ("bare", 0)), None)
+        nowhere = [("not", ("at", ("thing", 0), ("hand", hand))) for hand in (0, 2, 3)]
+        checks = where[:2] + [("on", 0), ("on", 1), ("inside", 0), ("inside", 1), ("inside", 2)]
+        self.assertEqual(fewest_checks(log + nowhere, checks, ("at", ("thing", 0), ("hand", 1))), 3)
 
 
 if __name__ == "__main__":
