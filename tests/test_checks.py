@@ -141,6 +141,10 @@ class Next(Many):
         self.returns(1, next_check, OPEN, checks)
         self.returns(1, next_check, OPEN, [checks[0], checks[2], checks[1]])
         self.returns(0, next_check, OPEN, checks[:1])
+        house = House(1, (("hand", 0),), (("hand", 0),), (("hand", 0),))
+        log = Log(house, [("gap", (0,))])
+        self.returns([(0, 2), (None, 4)], findings, log, ("on", 0))
+        self.returns(1, next_check, log, [("on", 0), ("where", THING), ("inside", 0)])
 
     def test_first_of_several(self):
         self.returns(0, next_check, Log(HOUSE, []), [("on", 1), ("on", 0), ("inside", 0)])

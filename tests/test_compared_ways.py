@@ -6,6 +6,7 @@ import plainer
 from plain import some_sight
 from sealwatch.checks import fewest_checks, finding, findings, next_check
 from sealwatch.errors import NoCourse
+from sealwatch.guards import guards, unnoticed_way
 from sealwatch.teams import indispensable, least_teams
 from sealwatch.ways import reachable, shortest_way
 from trials import Trials
@@ -98,6 +99,28 @@ class Compared(Trials):
                 number = plainer.fewest(plain, states, checks, sight)
                 expected = None if number == plainer.FAR else number
                 self.assertEqual(fewest_checks(log, checks, sight), expected)
+
+    def test_guards(self):
+        self.each(range(3000, 3200), 0, self.check_guards)
+
+    def check_guards(self, chance, plain, *_):
+        world = some_world(chance, plain)
+        hands = some_hands(chance, plain.house)
+        checks = some_checks(chance, plain.house, 5)
+        same = [plainer.find(plain, world.state, check) for check in checks]
+        sight = some_sight(chance, plain.house)
+
+        def is_unnoticed(state, indexes):
+            return all(plainer.find(plain, state, checks[index]) == same[index] for index in indexes)
+
+        way = plainer.way(plain, world.state, hands, lambda state: plainer.is_so(plain, state, sight)
+                          and is_unnoticed(state, range(len(checks))))
+        self.assertEqual(unnoticed_way(world, hands, sight, checks), way)
+        states = plainer.reached(plain, [world.state], hands)
+        goals = [state for state in states if plainer.is_so(plain, state, sight)]
+        enough = [list(indexes) for indexes in plainer.all_subsets(range(len(checks)))
+                  if not any(is_unnoticed(state, indexes) for state in goals)]
+        self.assertEqual(guards(world, hands, sight, checks), enough[0] if enough else None)
 
 
 if __name__ == "__main__":

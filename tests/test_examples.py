@@ -143,6 +143,54 @@ raises InvalidCourse()
 >>> from sealwatch.logs import Log
 >>> next_check(Log(house, []), [("on", 0), ("on", 1)])
 raises InvalidCheck(index=1)
+
+>>> from sealwatch.guards import guards, unnoticed_way
+>>> from sealwatch.houses import House
+>>> house = House(2, (("hand", 0),), (("box", 0),), (("box", 0),))
+>>> from sealwatch.worlds import World
+>>> sight = ("at", ("thing", 0), ("hand", 0))
+>>> way = unnoticed_way(World(house), (0,), sight, [])
+>>> [way, guards(World(house), (0,), sight, [("where", ("box", 0)), ("on", 0), ("inside", 0)])]
+[[('break', 0, 0), ('take', 0, ('thing', 0), 0)], [1]]
+
+>>> from sealwatch.houses import House
+>>> house = House(2, (("hand", 0),), (("box", 0),), (("box", 0),))
+>>> from sealwatch.logs import Log
+>>> from sealwatch.tellers import least_left_out, liars
+>>> log = Log(house, [("bare", 0), ("at", ("thing", 0), ("box", 0))])
+>>> [liars(log, (1, 0)), least_left_out(log, (1, 0)), liars(log.until(0), ())]
+[[(1,)], [0], [()]]
+
+>>> from sealwatch.houses import House
+>>> house = House(2, (("hand", 0),), (("box", 0),), (("box", 0),))
+>>> from sealwatch.logs import Log
+>>> from sealwatch.tellers import liars
+>>> liars(Log(house, [("bare", 0), ("gap", (0,))]), (0, 0))
+raises InvalidTeller(index=1)
+
+>>> from sealwatch.houses import House
+>>> house = House(2, (("hand", 0),), (("box", 0),), (("box", 0),))
+>>> from sealwatch.joins import first_join, join_count, joined, surely_before
+>>> from sealwatch.logs import Log
+>>> logs = (Log(house, [("bare", 0)]), Log(house, [("break", 0, 0)]))
+>>> [join_count(logs), first_join(logs), joined(logs, (1, 0)).rows, surely_before(logs, (0, 0), (1, 0))]
+[1, (1, 0), (('break', 0, 0), ('bare', 0)), False]
+
+>>> from sealwatch.houses import House
+>>> house = House(2, (("hand", 0),), (("box", 0),), (("box", 0),))
+>>> from sealwatch.joins import join_count
+>>> from sealwatch.logs import Log
+>>> join_count((Log(house, []),))
+raises InvalidLogs(index=1)
+
+>>> from sealwatch.houses import House
+>>> house = House(2, (("hand", 0),), (("box", 0),), (("box", 0),))
+>>> from sealwatch.rounds import first_round, rounds, true_rounds
+>>> from sealwatch.worlds import World
+>>> deeds = [("break", 0, 0)]
+>>> told = rounds(World(house), deeds, 10 ** 18)
+>>> [told, true_rounds(World(house), deeds, ("gone", 0), 9), first_round(World(house), deeds, ("gone", 0))]
+[(((('hand', 0),), (('box', 0),), (('gone', 0),)), (1, 0)), 1, 1]
 '''
 
 

@@ -6,10 +6,13 @@ import unittest
 from sealwatch.checks import fewest_checks, findings, next_check
 from sealwatch.courses import course_count, courses, fewest_course, first_fault
 from sealwatch.errors import NoCourse
+from sealwatch.guards import guards, unnoticed_way
 from sealwatch.houses import House
+from sealwatch.joins import first_join, join_count, surely_before
 from sealwatch.logs import Log, final_states, impossible_row
 from sealwatch.questions import answer, possible_places
 from sealwatch.teams import least_teams
+from sealwatch.tellers import least_left_out, liars
 from sealwatch.touching import touch_span, touch_words
 from sealwatch.ways import reachable, shortest_way
 from sealwatch.worlds import World
@@ -138,6 +141,34 @@ class Large(unittest.TestCase):
         nowhere = [("not", ("at", ("thing", 0), ("hand", hand))) for hand in (0, 2, 3)]
         checks = where[:2] + [("on", 0), ("on", 1), ("inside", 0), ("inside", 1), ("inside", 2)]
         self.assertEqual(fewest_checks(log + nowhere, checks, ("at", ("thing", 0), ("hand", 1))), 3)
+
+    def test_guards(self):
+        checks = [("inside", 0), ("inside", 1), ("inside", 2), ("on", 0), ("on", 1), ("on", 2), ("where", ("thing", 0))]
+        sights = [("at", ("box", 0), ("hand", 3)), ("gone", 1), ("at", ("thing", 2), ("box", 2)), ("at", ("box", 1), ("box", 1))]
+        found = [guards(World(HOUSE), (0, 1, 2, 3), sight, checks) for sight in sights]
+        self.assertEqual(found, [None, [3, 4], [2], []])
+        self.assertEqual(guards(World(FREE), (0, 1, 2, 3), ("at", ("thing", 1), ("hand", 3)), checks), None)
+        way = unnoticed_way(World(HOUSE), (0, 1, 2, 3), sights[0], checks)
+        self.assertEqual(way, [("give", 0, ("box", 0), 3)])
+        self.assertIsNone(unnoticed_way(World(HOUSE), (0, 1, 2, 3), sights[1], checks))
+
+    def test_tellers(self):
+        rows = [ALL, ("bare", 0), ("gap", (0, 1)), ("not", ("bare", 0)), ("gap", (1, 2)), ("not", ("gone", 0))] * 5
+        tellers = (None, 0, None, 1, None, 2) * 5
+        self.assertEqual(liars(Log(HOUSE, rows), tellers), [(0,), (1, 2)])
+        self.assertEqual(least_left_out(Log(HOUSE, rows), tellers), [1, 7, 13, 19, 25])
+        tellers = (None, 0, None, 1, None, None) * 5
+        self.assertEqual(liars(Log(HOUSE, rows), tellers), [(0,)])
+
+    def test_joins(self):
+        deeds = [("break", 0, 0), ("take", 0, ("thing", 0), 0), ("give", 0, ("thing", 0), 3), ("bare", 0)]
+        logs = (Log(HOUSE, deeds[1:]), Log(HOUSE, [ALL, ("gone", 1), ("gap", (1, 2))]), Log(HOUSE, deeds[:1] + deeds[3:]))
+        count = join_count(logs)
+        self.assertEqual(first_join(logs), (1, 1, 1, 2, 0, 0, 0, 2))
+        self.assertEqual(surely_before(logs, (2, 0), (0, 0)), True)
+        self.assertEqual(surely_before(logs, (2, 0), (1, 0)), False)
+        self.assertEqual(surely_before(logs, (1, 0), (1, 1)), True)
+        self.assertGreater(count, 20)
 
 
 if __name__ == "__main__":
