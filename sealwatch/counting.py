@@ -7,11 +7,16 @@ from sealwatch.plans import codes_behind
 
 
 class Counter:
-    """The ways to go on from the forms of states, each of which has a number, with up to so many secret deeds."""
+    """The ways to go on from the forms of states, each of which has a number, with up to so many secret deeds.
 
-    def __init__(self, plan, rows, most):
+    A ban is None, or the index of an item and the code of a place where it never is. The rows are those of the
+    plan; there may be more of them, which only say what else is not alike.
+    """
+
+    def __init__(self, plan, rows, most, ban):
         self.plan = plan
         self.most = most
+        self.ban = ban
         self.lengths = length_sets(plan, most)
         self.alike = likenesses(plan, rows)
         self.sums = {}
@@ -51,14 +56,16 @@ class Counter:
             codes = self.forms[number]
             found = []
             for index, goal in moves_from(self.plan, codes, self.plan.steps[row].hands):
-                found.append(self.number_of(row, codes[:index] + (goal,) + codes[index + 1:]))
+                if (index, goal) != self.ban:
+                    found.append(self.number_of(row, codes[:index] + (goal,) + codes[index + 1:]))
             self.goals[row][number] = found
         return self.goals[row][number]
 
     def all_courses(self):
         """The number of courses with just as many secret deeds as there may be."""
         levels = [{} for _ in range(self.most + 1)]
-        levels[0][self.number_of(0, self.plan.start)] = 1
+        if not self.is_banned(self.plan.start):
+            levels[0][self.number_of(0, self.plan.start)] = 1
         for row, step in enumerate(self.plan.steps):
             if step.hands is not None:
                 for used in range(self.most):
@@ -92,8 +99,12 @@ class Counter:
             step = self.plan.steps[row]
             if step.hands is None:
                 codes = codes_behind(codes, step.ways)
-            self.behind[row][number] = None if codes is None else self.number_of(row + 1, codes)
+            is_lost = codes is None or self.is_banned(codes)
+            self.behind[row][number] = None if is_lost else self.number_of(row + 1, codes)
         return self.behind[row][number]
+
+    def is_banned(self, codes):
+        return self.ban is not None and codes[self.ban[0]] == self.ban[1]
 
     def can_go_on(self, row, codes, left):
         """Whether there is a way from a state ahead of a row with just so many secret deeds."""

@@ -65,14 +65,14 @@ def state_behind_row(house, state, row):
 def course_count(log, number):
     """How many courses with just so many secret deeds fit."""
     need_number(number)
-    return Counter(plan_of(log), log.rows, number).all_courses()
+    return Counter(plan_of(log), log.rows, number, None).all_courses()
 
 
 def courses(log, number):
     """All courses with just so many secret deeds that fit, ascending."""
     need_number(number)
     plan = plan_of(log)
-    counter = Counter(plan, log.rows, number)
+    counter = Counter(plan, log.rows, number, None)
     for course in courses_from(counter, 0, plan.start, number):
         yield course
 

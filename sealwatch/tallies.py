@@ -18,6 +18,12 @@ def tally(house, cells, view):
     return [(state_at(house, ranks, codes), count) for ranks, count in rows]
 
 
+def state_count(house, cells):
+    """How many states there are in some cells."""
+    blank = ((0,) * CODES,) * len(house.all_items)
+    return sum([count for _, count in tally(house, cells, blank)])
+
+
 def order_of_items(house):
     """The indexes of all items in the order in which a state has them: boxes, things, seals."""
     boxes = len(house.boxes)

@@ -219,6 +219,17 @@ def some_sight(chance, house):
     return ("in", chance.randrange(len(house.boxes)), tuple(loads))
 
 
+def some_check(chance, house):
+    word = chance.choice(("where", "where", "on", "inside"))
+    if word == "where":
+        return (word, chance.choice(house.all_items))
+    return (word, chance.randrange(len(house.boxes)))
+
+
+def some_checks(chance, house, most):
+    return [some_check(chance, house) for _ in range(chance.randint(0, most))]
+
+
 def some_rows(chance, plain, many):
     """Rows of a log that some course mostly fits."""
     house = plain.house

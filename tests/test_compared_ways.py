@@ -3,7 +3,7 @@
 import unittest
 
 import plainer
-from plain import some_sight
+from plain import some_checks, some_sight
 from sealwatch.checks import fewest_checks, finding, findings, next_check
 from sealwatch.errors import NoCourse
 from sealwatch.guards import guards, unnoticed_way
@@ -14,17 +14,6 @@ from trials import Trials
 
 def some_hands(chance, house):
     return tuple(hand for hand in range(house.hands) if chance.random() < 0.7)
-
-
-def some_check(chance, house):
-    word = chance.choice(("where", "where", "on", "inside"))
-    if word == "where":
-        return (word, chance.choice(house.all_items))
-    return (word, chance.randrange(len(house.boxes)))
-
-
-def some_checks(chance, house, most):
-    return [some_check(chance, house) for _ in range(chance.randint(0, most))]
 
 
 def some_world(chance, plain):

@@ -191,6 +191,37 @@ raises InvalidLogs(index=1)
 >>> told = rounds(World(house), deeds, 10 ** 18)
 >>> [told, true_rounds(World(house), deeds, ("gone", 0), 9), first_round(World(house), deeds, ("gone", 0))]
 [(((('hand', 0),), (('box', 0),), (('gone', 0),)), (1, 0)), 1, 1]
+
+>>> from sealwatch.houses import House
+>>> house = House(2, (("hand", 0),), (("box", 0),), (("box", 0),))
+>>> from sealwatch.watches import Watch
+>>> watch = Watch(house)
+>>> told = [watch.add(("gap", (0,))), watch.mark("a"), watch.add(("bare", 0)), watch.go("a"), watch.undo()]
+>>> told + [watch.marks, watch.surely(("gone", 0))]
+[3, False, 2, 1, True, ['a'], 'always']
+
+>>> from sealwatch.houses import House
+>>> house = House(2, (("hand", 0),), (("box", 0),), (("box", 0),))
+>>> from sealwatch.watches import Watch
+>>> Watch(house).apply_all([("add", ("gap", (0,))), ("add",)])
+raises InvalidOperation(index=1)
+
+>>> from sealwatch.houses import House
+>>> house = House(2, (("hand", 0),), (("box", 0),), (("box", 0),))
+>>> from sealwatch.logs import Log
+>>> from sealwatch.suspects import Suspects
+>>> suspects = Suspects(Log(house, [("gap", (0, 1))]))
+>>> told = [suspects.candidates, suspects.see(("bare", 0)), suspects.candidates]
+>>> told + [suspects.can_be(0, ("at", ("thing", 0), ("hand", 0))), suspects.telling([("on", 0)])]
+[(0, 1), 1, (0,), True, 0]
+
+>>> from sealwatch.houses import House
+>>> house = House(2, (("hand", 0),), (("box", 0),), (("box", 0),))
+>>> from sealwatch.logs import Log
+>>> from sealwatch.shares import share, touch_shares
+>>> log = Log(house, [("gap", (0,))])
+>>> [share(log, 2, ("at", ("thing", 0), ("hand", 0))), touch_shares(log, 3, ("thing", 0))]
+[(1, 1), [(1, 1), (0, 1)]]
 '''
 
 
