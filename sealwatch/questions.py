@@ -19,9 +19,14 @@ def possible_moments(log):
 def possible_places(log, item):
     """All places where an item can be straight at the end, ascending."""
     need_item(log.house, item)
-    index = index_of(log.house, item)
+    return places_in(log.house, possible_moments(log)[-1], item)
+
+
+def places_in(house, cells, item):
+    """All places where an item is in some state of cells, ascending."""
+    index = index_of(house, item)
     mask = 0
-    for cell in possible_moments(log)[-1]:
+    for cell in cells:
         mask |= cell[index]
     return sorted([place_of(code) for code in codes_in(mask)])
 
@@ -29,9 +34,13 @@ def possible_places(log, item):
 def answer(log, sight):
     """Whether a sight is "always", "sometimes" or "never" true at the end."""
     need_sight(log.house, sight)
-    cells = possible_moments(log)[-1]
-    if len(behind_ways(cells, sight_ways(log.house, sight, True))) == 0:
+    return answer_in(log.house, possible_moments(log)[-1], sight)
+
+
+def answer_in(house, cells, sight):
+    """Whether a sight is "always", "sometimes" or "never" true of the states of cells."""
+    if len(behind_ways(cells, sight_ways(house, sight, True))) == 0:
         return "never"
-    if len(behind_ways(cells, sight_ways(log.house, sight, False))) == 0:
+    if len(behind_ways(cells, sight_ways(house, sight, False))) == 0:
         return "always"
     return "sometimes"

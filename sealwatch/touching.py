@@ -1,6 +1,6 @@
 """Who touches an item, and when."""
 
-from sealwatch.cells import can_end, last_cells, with_item
+from sealwatch.cells import behind_step, can_end, cells_along, merged, with_item
 from sealwatch.known import need_hand, need_item
 from sealwatch.places import index_of
 from sealwatch.plans import plan_of
@@ -10,17 +10,49 @@ from sealwatch.questions import possible_moments
 def touch_words(log, item):
     """For each hand, whether it touches an item "surely", "perhaps" or "never"."""
     need_item(log.house, item)
-    moments = possible_moments(log)
-    return [touch_word(log, moments, item, hand) for hand in range(log.house.hands)]
+    return words_along(log, possible_moments(log), item)[-1]
 
 
-def touch_word(log, moments, item, hand):
-    ban = (index_of(log.house, item), 1 << hand)
-    if len(last_cells(plan_of(log), ban)) == 0:
-        return "surely"
-    if first_held(log, moments, item, hand) is None:
-        return "never"
-    return "perhaps"
+def words_along(log, moments, item):
+    """At each moment, for each hand, whether it has touched an item in the courses up to there."""
+    plan = plan_of(log)
+    index = index_of(log.house, item)
+    words = [words_of_hand(plan, moments, (index, 1 << hand)) for hand in range(log.house.hands)]
+    return [[row[moment] for row in words] for moment in range(len(moments))]
+
+
+def words_of_hand(plan, moments, held):
+    """The words at each moment for the index of an item and the mask of a hand."""
+    free = [len(cells) > 0 for cells in cells_along(plan, held)]
+    words = []
+    for moment, cells in enumerate(touched_along(plan, moments, held)):
+        if moment >= len(free) or not free[moment]:
+            words.append("surely")
+        else:
+            words.append("perhaps" if cells else "never")
+    return words
+
+
+def touched_along(plan, moments, held):
+    """At each moment the cells of the states to which some course leads in which the hand has held the item."""
+    touched = with_item(moments[0], held[0], held[1])
+    found = [touched]
+    for moment, step in enumerate(plan.steps[:len(moments) - 1]):
+        cells = moments[moment + 1]
+        if sorted(touched) == sorted(moments[moment]):
+            touched = cells
+        else:
+            touched = touched_behind(plan, step, touched, with_item(cells, held[0], held[1]))
+        found.append(touched)
+    return found
+
+
+def touched_behind(plan, step, touched, fresh):
+    """The cells of what was touched before, or is touched freshly in a row."""
+    if step.hands is None:
+        return merged(plan, behind_step(plan, step, touched, None) + fresh)
+    # What the hand comes to hold within a gap can go on from there in the same gap.
+    return behind_step(plan, step, merged(plan, touched + fresh), None)
 
 
 def touch_span(log, item, hand):

@@ -2,7 +2,7 @@
 
 import unittest
 
-EXAMPLES = '''
+EXAMPLES = r'''
 >>> from sealwatch.houses import House
 >>> house = House(2, (("hand", 0), ("box", 0)), (("box", 1),), (("box", 0),))
 >>> [house.state[2], house.all_items, ("thing", 0) in house, ("box", 2) in house]
@@ -222,6 +222,45 @@ raises InvalidOperation(index=1)
 >>> log = Log(house, [("gap", (0,))])
 >>> [share(log, 2, ("at", ("thing", 0), ("hand", 0))), touch_shares(log, 3, ("thing", 0))]
 [(1, 1), [(1, 1), (0, 1)]]
+
+>>> from sealwatch.houses import House
+>>> house = House(2, (("hand", 0),), (("box", 0),), (("box", 0),))
+>>> from sealwatch.logs import Log
+>>> from sealwatch.notation import format_log, parse_log
+>>> text = format_log(Log(house, [("gap", (0,)), ("not", ("bare", 0))]))
+>>> [text, parse_log(text).rows]
+['hands 2\nbox hand 0\nthing box 0\nseal box 0\nlog\ngap 0\nnot bare 0', (('gap', (0,)), ('not', ('bare', 0)))]
+
+>>> from sealwatch.notation import parse_log
+>>> parse_log("hands 1\nlog\nbare x")
+raises InvalidText(row=2, word=1)
+
+>>> from sealwatch.boards import board
+>>> from sealwatch.houses import House
+>>> house = House(2, (("hand", 0),), (("box", 0),), (("box", 0),))
+>>> from sealwatch.worlds import World
+>>> board(World(house))
+'hand 0: box 0 (seal 0) [thing 0]\nhand 1:'
+
+>>> from sealwatch.codec import decode_log, encode_log
+>>> from sealwatch.houses import House
+>>> from sealwatch.logs import Log
+>>> values = encode_log(Log(House(1, (("hand", 0),), (), ()), [("bare", 0)]))
+>>> [values, decode_log(values).rows]
+[[115, 1, 1, 0, 0, 0, 0, 1, 6, 0, 128], (('bare', 0),)]
+
+>>> from sealwatch.codec import decode_log
+>>> decode_log([115, 1])
+raises DecodeError(offset=2)
+
+>>> from sealwatch.daybooks import Daybook
+>>> text = "hands 2\nbox hand 0\nthing box 0\nseal box 0\nlog\nask bare 0\nwho thing 0\ngap 0\nwhere thing 0"
+>>> [Daybook(text).results, Daybook(text).log().rows]
+['never\nnever never\nbox 0, hand 0', (('gap', (0,)),)]
+
+>>> from sealwatch.daybooks import Daybook
+>>> Daybook("hands 1\nbox hand 0\nlog\nwho box")
+raises DaybookError(row=3, word=2)
 '''
 
 

@@ -148,6 +148,9 @@ class Marking(Watches):
         for name in ("", "abcdefghi", "A", "aB", "a b", "a1", "1", "_", "a-b", " a", "a\n", "\u00e4", "\u0430", "a" * 100):
             self.fails(watch, InvalidName, {}, watch.mark, name)
             self.fails(watch, UnknownMark, {}, watch.go, name)
+        for name in (None, 1, True, ("ab",), ["ab"], b"ab"):
+            self.fails(watch, InvalidName, {}, watch.apply_all, [("mark", name)])
+            self.fails(watch, UnknownMark, {}, watch.apply_all, [("go", name)])
         self.assertEqual(watch.marks, ["ab"])
 
     def test_go(self):
