@@ -2,7 +2,7 @@
 
 from sealwatch.bounds import length_sets, sum_of_lengths
 from sealwatch.likeness import Likeness, classes_ahead
-from sealwatch.moves import moves_from
+from sealwatch.moves import moves_of_solid, moves_of_things
 from sealwatch.plans import codes_behind
 
 
@@ -25,6 +25,7 @@ class Counter:
         self.rooms = [{} for _ in range(len(rows) + 1)]
         self.goals = [{} for _ in rows]
         self.behind = [{} for _ in rows]
+        self.moves = {}
         self.known = {}
 
     def number_of(self, row, codes):
@@ -50,30 +51,64 @@ class Counter:
             total = self.sums[key]
         return total
 
+    def moves_from(self, row, codes):
+        """The moves of secret deeds in the gap of a row: tuples (index of the item, its next code)."""
+        plan = self.plan
+        hands = plan.steps[row].hands
+        solid = codes[:plan.solid]
+        key = (hands, solid)
+        if key not in self.moves:
+            self.moves[key] = (moves_of_solid(plan, solid, hands), moves_of_things(plan, solid, hands))
+        found, goals = self.moves[key]
+        found = found + [(index, goal) for index in range(plan.solid, plan.size) for goal in goals[codes[index]]]
+        return [move for move in found if move != self.ban]
+
     def goals_from(self, row, number):
         """The numbers behind one secret deed in the gap of a row, as often as there are such deeds."""
         if number not in self.goals[row]:
             codes = self.forms[number]
-            found = []
-            for index, goal in moves_from(self.plan, codes, self.plan.steps[row].hands):
-                if (index, goal) != self.ban:
-                    found.append(self.number_of(row, codes[:index] + (goal,) + codes[index + 1:]))
-            self.goals[row][number] = found
+            self.goals[row][number] = [self.number_of(row, codes[:index] + (goal,) + codes[index + 1:])
+                                       for index, goal in self.moves_from(row, codes)]
         return self.goals[row][number]
 
     def all_courses(self):
         """The number of courses with just as many secret deeds as there may be."""
-        levels = [{} for _ in range(self.most + 1)]
-        if not self.is_banned(self.plan.start):
-            levels[0][self.number_of(0, self.plan.start)] = 1
+        if self.is_banned(self.plan.start):
+            return 0
+        if self.most == 0:
+            return 1 if self.can_rest(0, self.plan.start) else 0
+        levels = [{} for _ in range(self.most)]
+        levels[0][self.number_of(0, self.plan.start)] = 1
+        total = 0
         for row, step in enumerate(self.plan.steps):
             if step.hands is not None:
-                for used in range(self.most):
+                for used in range(self.most - 1):
                     self.count_deeds(row, used, levels)
+                total += sum([count * self.last_deeds(row, number) for number, count in levels[-1].items()])
             levels = [self.counts_behind(row, used, level) for used, level in enumerate(levels)]
             # The goals of this row are not asked for again, and they are what takes most of the memory.
             self.goals[row] = {}
-        return sum(list(levels[self.most].values()))
+        return total
+
+    def last_deeds(self, row, number):
+        """How many secret deeds in the gap of a row can be the last one; the states behind them need no forms."""
+        if not self.has_room(row, number, 1):
+            return 0
+        codes = self.forms[number]
+        found = 0
+        for index, goal in self.moves_from(row, codes):
+            if self.can_rest(row + 1, codes[:index] + (goal,) + codes[index + 1:]):
+                found += 1
+        return found
+
+    def can_rest(self, row, codes):
+        """Whether what comes from a row on fits a state without any secret deeds."""
+        for step in self.plan.steps[row:]:
+            if step.hands is None:
+                codes = codes_behind(codes, step.ways)
+                if codes is None or self.is_banned(codes):
+                    return False
+        return True
 
     def count_deeds(self, row, used, levels):
         """Add what one more secret deed makes of the states behind so many."""
