@@ -62,7 +62,8 @@ def decode_log(values):
     boxes = code.read_all("place")
     things = code.read_all("place")
     seals = code.read_all("place")
-    rows = [code.read_row(ROW_WORDS) for _ in range(code.integer(0, MOST))]
+    count = code.integer(0, MOST)
+    rows = [code.read_row(ROW_WORDS) for _ in range(count)]
     code.need_end()
     return Log(House(hands, boxes, things, seals), rows)
 
@@ -110,7 +111,8 @@ class Code:
 
     def read_all(self, kind):
         """As many parts of a kind as the next integer tells."""
-        return tuple([self.read_part(kind) for _ in range(self.integer(0, MOST))])
+        count = self.integer(0, MOST)
+        return tuple([self.read_part(kind) for _ in range(count)])
 
     def need_end(self):
         """The checksum of all that was read comes next, and nothing behind it."""

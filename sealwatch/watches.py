@@ -14,7 +14,7 @@ LONGEST_NAME = 8
 class Moment:
     """What a watch knows behind an operation; nothing of it is changed any more.
 
-    The cells are those of the states at the end of the log, marked has the moment of each mark by its name.
+    The cells are those of the states at the end of the log; marked has the log and the cells of each mark.
     """
 
     def __init__(self, operation, story, cells, marked):
@@ -68,7 +68,7 @@ class Watch:
             raise InvalidName("a name is one to eight letters a to z")
         now = self.past[-1]
         marked = dict(now.marked)
-        marked[name] = now
+        marked[name] = (now.story, now.cells)
         self.execute(Moment(("mark", name), now.story, now.cells, marked))
         return name in now.marked
 
@@ -77,9 +77,9 @@ class Watch:
         now = self.past[-1]
         if not is_name(name) or name not in now.marked:
             raise UnknownMark("nothing is marked with this name")
-        goal = now.marked[name]
-        self.execute(Moment(("go", name), goal.story, goal.cells, now.marked))
-        return len(goal.story)
+        story, cells = now.marked[name]
+        self.execute(Moment(("go", name), story, cells, now.marked))
+        return len(story)
 
     def execute(self, moment):
         """Go on to the moment behind a new operation; what was undone cannot be redone any more."""

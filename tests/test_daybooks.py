@@ -80,6 +80,8 @@ class Answered(Calls):
 
     def test_no_course_fits_behind_the_last_question(self):
         self.check(text_of("ask bare 0", "bare 0", "gap 0"), ["never"], HOUSE, [("bare", 0), ("gap", (0,))])
+        self.check(text_of("gap 0", "who thing 0", "gone 0", "not gone 0", "gap 0"), ["perhaps never"], HOUSE,
+                   [("gap", (0,)), ("gone", 0), ("not", ("gone", 0)), ("gap", (0,))])
         self.check(text_of("bare 0"), [], HOUSE, [("bare", 0)])
 
 

@@ -5,15 +5,20 @@ import unittest
 
 from sealwatch.checks import fewest_checks, findings, next_check
 from sealwatch.courses import course_count, courses, fewest_course, first_fault
+from sealwatch.daybooks import Daybook
 from sealwatch.errors import NoCourse
 from sealwatch.guards import guards, unnoticed_way
 from sealwatch.houses import House
 from sealwatch.joins import first_join, join_count, surely_before
 from sealwatch.logs import Log, final_states, impossible_row
+from sealwatch.notation import format_log
 from sealwatch.questions import answer, possible_places
+from sealwatch.shares import share, touch_shares
+from sealwatch.suspects import Suspects
 from sealwatch.teams import least_teams
 from sealwatch.tellers import least_left_out, liars
 from sealwatch.touching import touch_span, touch_words
+from sealwatch.watches import Watch
 from sealwatch.ways import reachable, shortest_way
 from sealwatch.worlds import World
 
@@ -169,6 +174,36 @@ class Large(unittest.TestCase):
         self.assertEqual(surely_before(logs, (2, 0), (1, 0)), False)
         self.assertEqual(surely_before(logs, (1, 0), (1, 1)), True)
         self.assertGreater(count, 20)
+
+    def test_watch(self):
+        watch = Watch(HOUSE)
+        rows = [ALL, ("gap", (0, 1)), ("not", ("in", 2, (("thing", 0),))), ("gap", (1, 2))] * 7 + [("gone", 0), ("gone", 1)]
+        counts = [watch.add(row) for row in rows]
+        self.assertEqual(counts[0], sum([count for _, count in findings(Log(HOUSE, [ALL]), ("on", 0))]))
+        self.assertEqual(counts[-1], sum([count for _, count in findings(watch.log(), ("on", 0))]))
+        self.assertEqual([watch.undo() for _ in range(31)], [True] * 30 + [False])
+
+    def test_suspects(self):
+        suspects = Suspects(Log(FREE, [ALL, ("give", 0, ("box", 0), 1)] + [("gap", (0, 2)), ALL] * 5))
+        self.assertEqual(suspects.candidates, (0, 1, 2, 3))
+        self.assertEqual(suspects.see(("not", ("in", 0, ()))), 1)
+        self.assertEqual(suspects.candidates, (0,))
+        self.assertEqual(suspects.telling([("on", 0), ("where", ("thing", 0))]), 0)
+
+    def test_shares(self):
+        log = Log(HOUSE, [ALL, ("not", ("gone", 1)), ("gap", (0, 2))])
+        for item in (("thing", 1), ("seal", 1), ("box", 2)):
+            parts = [share(log, 5, ("at", item, ("hand", hand))) for hand in range(4)]
+            for part, touched in zip(parts, touch_shares(log, 5, item)):
+                self.assertLessEqual(part[0] * touched[1], touched[0] * part[1])
+
+    def test_daybook(self):
+        log = Log(HOUSE, [ALL, ("gap", (0, 1)), ("not", ("in", 2, (("thing", 0),))), ("gap", (1, 2))] * 3)
+        lines = format_log(log).split("\n")
+        text = "\n".join(lines[:-1] + ["who thing 0"] * 30 + lines[-1:] + ["who thing 0", "ask gone 0", "where box 0"] * 20)
+        words = [" ".join(touch_words(part, ("thing", 0))) for part in (log.until(11), log)]
+        places = ", ".join([f"{word} {number}" for word, number in possible_places(log, ("box", 0))])
+        self.assertEqual(Daybook(text).results.split("\n"), words[:1] * 30 + [words[1], answer(log, ("gone", 0)), places] * 20)
 
 
 if __name__ == "__main__":
